@@ -1,0 +1,164 @@
+"""Values and plain reference code that the tests share."""
+
+import copy
+from itertools import product
+
+
+def nested(depth):
+    thing = 0
+    for _ in range(depth):
+        thing = (thing,)
+    return thing
+
+
+# Values of every kind; none of them is a view, a table or a partition of any view.
+ODD_THINGS = [
+    None,
+    True,
+    False,
+    0,
+    1,
+    -1,
+    10**13 - 1,
+    "",
+    "view 0 1 0",
+    "(0, 1)\n" * 60,
+    [],
+    [0],
+    [0, 1],
+    [[0]],
+    [(0,)],
+    {},
+    {0: 0},
+    {0: (0,)},
+    {"a": [1, {"b": None}]},
+    {(0,): [0]},
+    (None,),
+    (True,),
+    (False,),
+    ("0",),
+    ("", ""),
+    ([0],),
+    ({},),
+    ({0: 0},),
+    (0, None),
+    (0, "1"),
+    (0, [1]),
+    (0, {}),
+    (0, (1,)),
+    ((), 0),
+    ((),),
+    ((0,), 0),
+    ((0,), None),
+    ((0,), [0]),
+    ([0], (0,)),
+    ((0,), "0"),
+    (("0",),),
+    (([0],),),
+    (({},),),
+    ((False,),),
+    ((True, False),),
+    ((-1,),),
+    ((10**13 - 1,),),
+    nested(3),
+    nested(8),
+    [0] * 3000,
+    (0, 1) * 1500,
+    ((0,),) * 1500,
+]
+
+
+# Views of all shapes with at most four states, and some larger ones.
+SMALL_VIEWS = [
+    view
+    for many in range(1, 5)
+    for view in product(range(many), repeat=many)
+    if set(view) == set(range(max(view) + 1))
+]
+
+LARGER_VIEWS = [
+    (0, 1, 0, 1, 0),
+    (2, 1, 0, 2, 1),
+    (4, 3, 2, 1, 0),
+    (1, 1, 1, 1, 0),
+    (0, 0, 0, 0, 0),
+    (0, 1, 2, 0, 1, 2),
+]
+
+
+def groupings(items):
+    """All ways to put the items into groups, as lists of tuples."""
+    if not items:
+        return [[]]
+    first, rest = items[0], items[1:]
+    found = []
+    for groups in groupings(rest):
+        found.append([(first,)] + groups)
+        for at, group in enumerate(groups):
+            found.append(groups[:at] + [(first,) + group] + groups[at + 1:])
+    return found
+
+
+def all_groupings(view):
+    """All ways to put the states of the view into groups, written as partitions are."""
+    return [tuple(sorted(tuple(sorted(group)) for group in groups))
+            for groups in groupings(list(range(len(view))))]
+
+
+def lets_apart(view, groups):
+    """Whether no two states of a group show the same value."""
+    return all(view[s] != view[t] for group in groups for s in group for t in group if s != t)
+
+
+def partitions(view):
+    return [groups for groups in all_groupings(view) if lets_apart(view, groups)]
+
+
+def written_out(view, parts):
+    """The table of a partition, entry by entry as the document defines it."""
+    table = []
+    for s in range(len(view)):
+        row = []
+        for v in range(max(view) + 1):
+            found = [t for part in parts if s in part for t in part if view[t] == v]
+            row.append(found[0] if found else None)
+        table.append(tuple(row))
+    return tuple(table)
+
+
+def every_table(view):
+    """All tables of a view, sound or not."""
+    entries = [None] + list(range(len(view)))
+    rows = list(product(entries, repeat=max(view) + 1))
+    return product(rows, repeat=len(view))
+
+
+def first_fault(view, table):
+    """What `broken` returns, from lists of all places at which a rule is broken."""
+    states, values = range(len(view)), range(max(view) + 1)
+    stay = [("stay", s) for s in states if table[s][view[s]] != s]
+    shown = [("shown", s, v) for s in states for v in values
+             if table[s][v] is not None and view[table[s][v]] != v]
+    forget = [("forget", s, v, w) for s in states for v in values for w in values
+              if table[s][v] is not None and table[table[s][v]][w] != table[s][w]]
+    for faults in (stay, shown, forget):
+        if faults:
+            return min(faults)
+    return None
+
+
+def outcome(function, args):
+    """What a call does, as a text that tells True from 1: its result or its exception."""
+    try:
+        return repr(function(*args))
+    except ValueError as error:
+        return "raises " + type(error).__name__
+
+
+def calls_are_clean(case, function, *args):
+    """Check that two calls do the same and leave the arguments as they are."""
+    before = copy.deepcopy(args)
+    first = outcome(function, args)
+    case.assertEqual(outcome(function, args), first)
+    case.assertEqual(repr(args), repr(before))
+    case.assertEqual(outcome(function, before), first)

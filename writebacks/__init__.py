@@ -1,0 +1,1 @@
+"""Writebacks: changing a state through views of it."""
