@@ -1,6 +1,7 @@
 """Values and plain reference code that the tests share."""
 
 import copy
+from functools import lru_cache
 from itertools import product
 
 
@@ -67,6 +68,19 @@ ODD_THINGS = [
     ((0,),) * 1500,
 ]
 
+# Values of every kind that are no view.
+NO_VIEWS = ODD_THINGS + [
+    (), (1,), (-1,), (0, 2), (1, 2), (0, 0, 2), (1, 1), (-1, 0), (0, -1, 1), (0, 10**13 - 1), (10**13 - 1,),
+    (0, True), (False, 1), (False, 1, 0), (True, False), (1, 0, True), (0, 1, 1.0), (0,) * 10, tuple(range(10)),
+    [0, 1, 0], ((0, 1, 0),), {0: 0, 1: 1},
+]
+
+# Values of every kind that are no state and no value of any view.
+NO_NUMBERS = [
+    None, True, False, -1, 9, 10, 10**13 - 1, 1 - 10**13, "", "0", "1", [], [0], [1], (), (0,), (1,), (None,),
+    {}, {0: 0}, {1: 1}, nested(8), [0] * 3000,
+]
+
 
 # Views of all shapes with at most four states, and some larger ones.
 SMALL_VIEWS = [
@@ -74,6 +88,11 @@ SMALL_VIEWS = [
     for many in range(1, 5)
     for view in product(range(many), repeat=many)
     if set(view) == set(range(max(view) + 1))
+]
+
+# Of these, the views in which each value is shown for the first time behind all smaller ones.
+ORDERLY_VIEWS = [
+    view for view in SMALL_VIEWS if all(number <= max((-1,) + view[:s]) + 1 for s, number in enumerate(view))
 ]
 
 LARGER_VIEWS = [
@@ -126,6 +145,12 @@ def written_out(view, parts):
     return tuple(table)
 
 
+@lru_cache(maxsize=None)
+def sound_tables(view):
+    """All sound tables of a view, in ascending order of their partitions."""
+    return [written_out(view, parts) for parts in sorted(partitions(view))]
+
+
 def every_table(view):
     """All tables of a view, sound or not."""
     entries = [None] + list(range(len(view)))
@@ -144,6 +169,28 @@ def first_fault(view, table):
     for faults in (stay, shown, forget):
         if faults:
             return min(faults)
+    return None
+
+
+def is_walk(linked, thing):
+    """Whether every two neighbours in a tuple are different and linked."""
+    return all(s != t and linked(s, t) for s, t in zip(thing, thing[1:]))
+
+
+def walks(many, linked):
+    """For each length from 1 to the number of states, the list of all traces of that length, ascending."""
+    found = [(s,) for s in range(many)]
+    for _ in range(many):
+        yield found
+        found = [walk + (t,) for walk in found for t in range(many) if is_walk(linked, (walk[-1], t))]
+
+
+def first_walk(view, linked):
+    """A shortest trace whose ends are different and show the same, of these the smallest, or None."""
+    for found in walks(len(view), linked):
+        for walk in found:
+            if walk[0] != walk[-1] and view[walk[0]] == view[walk[-1]]:
+                return walk
     return None
 
 

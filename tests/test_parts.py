@@ -1,7 +1,7 @@
 import unittest
 from itertools import permutations, product
 
-from samples import LARGER_VIEWS, ODD_THINGS, SMALL_VIEWS
+from samples import LARGER_VIEWS, NO_VIEWS, ODD_THINGS, SMALL_VIEWS
 from samples import all_groupings, calls_are_clean, every_table, lets_apart, partitions, written_out
 from writebacks.errors import Alike, NoParts, NotSound, NoTable, NoView
 from writebacks.parts import is_parts, kept_by, parts_of, table_keeping, table_of
@@ -12,7 +12,6 @@ PARTS = ((0, 1), (2, 3))
 TABLE = ((0, 1), (0, 1), (2, 3), (2, 3))
 KEPT = (0, 0, 1, 1)
 
-NO_VIEWS = ODD_THINGS + [(), (1,), (0, 2), (0, True), (False, 1, 0), (0, -1), (0, 10**13 - 1), [0, 1], (0,) * 10]
 NO_PARTS = ODD_THINGS + [
     (),
     # not sorted

@@ -1,16 +1,10 @@
 import unittest
 from itertools import product
 
-from samples import LARGER_VIEWS, ODD_THINGS, SMALL_VIEWS
+from samples import LARGER_VIEWS, NO_VIEWS, ODD_THINGS, SMALL_VIEWS
 from samples import calls_are_clean, every_table, first_fault, partitions, written_out
 from writebacks.errors import NoTable, NoView
 from writebacks.tables import broken, is_table, is_view, permitted
-
-NO_VIEWS = ODD_THINGS + [
-    (), (1,), (-1,), (0, 2), (1, 2), (0, 0, 2), (1, 1), (-1, 0), (0, -1, 1), (0, 10**13 - 1), (10**13 - 1,),
-    (0, True), (False, 1), (True, False), (1, 0, True), (0, 1, 1.0), (0,) * 10, tuple(range(10)),
-    [0, 1, 0], ((0, 1, 0),), {0: 0, 1: 1},
-]
 
 VIEW = (0, 1, 0)
 SOUND = ((0, 1), (0, 1), (2, None))

@@ -63,9 +63,10 @@ def table_keeping(view, kept):
     if len(set(list(zip(view, kept)))) < len(view):
         raise Alike()
     # The blocks stand in the order of their values, which need not be that of their states.
-    blocks = [_block(kept, value) for value in range(count_values(kept))]
+    blocks = [block_of(kept, value) for value in range(count_values(kept))]
     return table_of(view, tuple(sorted(blocks)))
 
 
-def _block(view, value):
+def block_of(view, value):
+    """Return the states that show a value, in ascending order."""
     return tuple([state for state, shown in enumerate(view) if shown == value])
