@@ -209,3 +209,27 @@ def calls_are_clean(case, function, *args):
     case.assertEqual(outcome(function, args), first)
     case.assertEqual(repr(args), repr(before))
     case.assertEqual(outcome(function, before), first)
+
+
+class Lookalike:
+    """What has the names of a view object, and is none."""
+
+    shown = (0, 1, 0)
+    table = ((0, 1), (0, 1), (2, None))
+
+
+# Things of every kind that are no view object.
+NO_VIEW_OBJECTS = NO_VIEWS + [
+    (0,), (0, 1), (0, 1, 0), ((0, 1), (0, 1), (2, None)), ((0, 1, 0), ((0, 1), (0, 1), (2, None))),
+    "view 0\n0: 0\n", "View(0 1 0)", Lookalike(), Lookalike,
+]
+
+
+def unfit_views(held, *others):
+    """Tuples that are not one to four view objects with one number of states; the others have not that of the first."""
+    found = [(), (held,) * 5, (held,) * 6]
+    for other in others:
+        found += [(held, other), (other, held), (held, held, held, other)]
+    for thing in NO_VIEW_OBJECTS:
+        found += [(thing,), (held, thing), (thing, held), (held, held, thing), (thing,) * 4]
+    return found

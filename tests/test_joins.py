@@ -4,7 +4,7 @@ import unittest
 from itertools import product
 
 from samples import LARGER_VIEWS, NO_NUMBERS, NO_VIEWS, ODD_THINGS, ORDERLY_VIEWS, SMALL_VIEWS
-from samples import all_groupings, calls_are_clean, first_walk, is_walk, lets_apart, sound_tables, walks, written_out
+from samples import all_groupings, calls_are_clean, first_walk, is_walk, lets_apart, sound_tables, written_out
 from writebacks.errors import NoPairs, NoState, NoStep, NotIndependent, NotSound, NoTable, NoView
 from writebacks.joins import chain, dependence, joined, merged, shows_joined
 from writebacks.tables import broken, is_table, is_view

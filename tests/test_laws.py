@@ -7,9 +7,12 @@ from math import factorial
 
 from samples import LARGER_VIEWS, ORDERLY_VIEWS, SMALL_VIEWS, sound_tables
 from writebacks.counts import count_full, full_tables, tables, widest
-from writebacks.joins import dependence, joined
-from writebacks.parts import parts_of, table_of
-from writebacks.tables import broken
+from writebacks.desk import Desk
+from writebacks.family import JoinedView, KeptView, TableView, View, WishView
+from writebacks.joins import dependence, joined, merged
+from writebacks.parts import kept_by, parts_of, table_of
+from writebacks.tables import broken, permitted
+from writebacks.texts import read_table, table_text
 from writebacks.wishes import full_with, smallest, ungranted
 
 
@@ -109,6 +112,86 @@ class LawsTest(unittest.TestCase):
                     middle = one[1][s][one[0][result]]
                     self.assertIsNotNone(middle)
                     self.assertEqual(other[1][middle][other[0][result]], result)
+
+
+class ObjectsTest(unittest.TestCase):
+    """That objects answer what the functions answer."""
+
+    def test_tables_partitions_and_texts(self):
+        for view in SMALL_VIEWS + LARGER_VIEWS:
+            for table in tables(view):
+                held = TableView(view, table)
+                self.assertEqual(held.parts, parts_of(view, table))
+                self.assertEqual(table_of(held.shown, held.parts), held.table)
+                self.assertEqual(KeptView(view, kept_by(view, table)), held)
+                self.assertEqual(View.read(table_text(view, table)), held)
+                self.assertEqual(read_table(table_text(held.shown, held.table)), (view, table))
+                self.assertEqual(sum(len(held.may(s)) for s in range(len(view))), permitted(view, table))
+                self.check_puts(held)
+
+    def check_puts(self, held):
+        for s in range(len(held.shown)):
+            results = [held.put(s, v) for v in held.may(s)]
+            self.assertEqual(sorted(results), sorted(held.reachable(s)))
+            for t, v in product(results, held.may(s)):
+                self.assertEqual(held.put(t, v), held.put(s, v))
+                self.assertEqual(held.put(t, held.value_at(s)), s)
+
+    def test_after_permitted_writes_at_a_desk_only_the_last_one_counts(self):
+        for view in ORDERLY_VIEWS:
+            for table in tables(view):
+                for s in range(len(view)):
+                    held = TableView(view, table)
+                    for values in product(held.may(s), repeat=3):
+                        self.check_desk(Desk(s, held), values)
+
+    def check_desk(self, desk, values):
+        first, old = desk.state, desk.cell(0).value
+        desk.do(*[(0, value) for value in values])
+        last = desk.state
+        desk.undo()
+        for value in values:
+            desk.cell(0).value = value
+        self.assertEqual(desk.state, last)
+        desk.state = first
+        desk.cell(0).value = values[-1]
+        self.assertEqual(desk.state, last)
+        desk.cell(0).value = old
+        self.assertEqual(desk.state, first)
+
+    def test_wishes_and_desks(self):
+        chance = random.Random(11)
+        for _ in range(300):
+            view = chance.choice(SMALL_VIEWS + LARGER_VIEWS)
+            wanted = TableView(view, chance.choice(sound_tables(view)))
+            held = WishView(view)
+            for _ in range(chance.randint(0, 8)):
+                s, v = chance.randrange(len(view)), chance.randrange(max(view) + 1)
+                held.learn(s, v, wanted.put(s, v) if v in wanted.may(s) else None)
+            self.assertEqual(("table", held.table), smallest(view, held.wishes))
+            self.assertEqual(ungranted(view, held.table, held.wishes), ())
+            for s in range(len(view)):
+                self.assertEqual([held.put(s, v) for v in held.may(s)], [wanted.put(s, v) for v in held.may(s)])
+                self.assertLessEqual(set(Desk(s, held).reachable()), set(Desk(s, wanted).reachable()))
+
+    def test_joined_views_and_desks(self):
+        for one, other in independent_pairs(4):
+            views = [TableView(*one), TableView(*other)]
+            both = JoinedView(*views)
+            self.assertEqual(joined(one, other), ("table", both.shown, both.table))
+            for s in range(len(one[0])):
+                self.assertEqual(sorted(Desk(s, *views).reachable()), sorted(both.reachable(s)))
+                self.check_merged(one, other, s)
+
+    def check_merged(self, one, other, base):
+        desk = Desk(base, TableView(*one), TableView(*other))
+        for mine, its in product(*[[t for t in pair[1][base] if t is not None] for pair in (one, other)]):
+            steps = ((0, one[0][mine]), (1, other[0][its]))
+            for order in (steps, steps[::-1]):
+                desk.state = base
+                desk.do(*order)
+                self.assertEqual(desk.state, merged(one, other, base, mine=mine, its=its))
+                self.assertEqual(desk.shown, (one[0][mine], other[0][its]))
 
 
 if __name__ == "__main__":

@@ -1,9 +1,9 @@
 """Views of views, and several views together: whether they are independent, and how to join them."""
 
-from writebacks.checks import is_below, is_same
-from writebacks.errors import NoPairs, NoState, NoStep, NotIndependent, NoView
+from writebacks.checks import is_same
+from writebacks.errors import NoPairs, NoStep, NotIndependent, NoView
 from writebacks.parts import table_of
-from writebacks.tables import broken, count_values, is_table, is_view, need_sound, need_view
+from writebacks.tables import broken, count_values, is_table, is_view, need_sound, need_state, need_view
 from writebacks.traces import is_trace, is_twice, linked_parts, near_states, shortest_twice
 
 MOST_PAIRS = 4
@@ -44,7 +44,7 @@ def joined(*pairs):
     """Return ("table", joined view, joined table), or ("clash", trace) if the pairs cannot be joined."""
     _need_pairs(pairs)
     view = _joined_view([shown for shown, table in pairs])
-    near = _near_by_tables(pairs)
+    near = near_by_tables(pairs)
     trace = shortest_twice(view, near)
     if trace is not None:
         return ("clash", trace)
@@ -52,12 +52,21 @@ def joined(*pairs):
 
 
 def _joined_view(views):
-    shown = [tuple([view[state] for view in views]) for state in range(len(views[0]))]
-    different = sorted(set(shown))
-    return tuple([different.index(values) for values in shown])
+    different = different_tuples(views)
+    return tuple([different.index(values) for values in _tuples_shown(views)])
 
 
-def _near_by_tables(pairs):
+def different_tuples(views):
+    """Return the sorted tuple of all different tuples of the values that views show at a state."""
+    return tuple(sorted(set(_tuples_shown(views))))
+
+
+def _tuples_shown(views):
+    return [tuple([view[state] for view in views]) for state in range(len(views[0]))]
+
+
+def near_by_tables(pairs):
+    """Return for each state the list of the other states that it is in one part with in some table of the pairs."""
     # A sound table leads from a state to exactly the states of its part.
     links = []
     for view, table in pairs:
@@ -75,7 +84,7 @@ def _is_clash(pairs, thing):
     if not isinstance(thing, tuple) or len(thing) != 2 or thing[0] != "clash":
         return False
     view = _joined_view([shown for shown, table in pairs])
-    return is_trace(_near_by_tables(pairs), thing[1]) and is_twice(view, thing[1])
+    return is_trace(near_by_tables(pairs), thing[1]) and is_twice(view, thing[1])
 
 
 def dependence(one, other):
@@ -114,8 +123,8 @@ def merged(one, other, base, *, mine, its):
     """Return the state to which a write by each of two independent pairs, both made at base, lead together."""
     if dependence(one, other) is not None:
         raise NotIndependent()
-    if not all([is_below(state, len(one[0])) for state in (base, mine, its)]):
-        raise NoState()
+    for state in (base, mine, its):
+        need_state(one[0], state)
     if mine not in one[1][base] or its not in other[1][base]:
         raise NoStep()
     # This write is not refused: writing the old value at mine leads back to base, where the second table permits

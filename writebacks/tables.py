@@ -1,7 +1,7 @@
 """Views, their tables of writes, and the three rules of a sound table."""
 
 from writebacks.checks import is_below
-from writebacks.errors import NoTable, NotSound, NoView
+from writebacks.errors import NoState, NoTable, NotSound, NoValue, NoView, Refused
 
 MOST_STATES = 9
 
@@ -25,6 +25,18 @@ def need_view(view):
 def count_values(view):
     """Return how many values a view has."""
     return max(view) + 1
+
+
+def need_state(view, thing):
+    """Raise NoState unless any value is a state of a view."""
+    if not is_below(thing, len(view)):
+        raise NoState()
+
+
+def need_value(view, thing):
+    """Raise NoValue unless any value is a value of a view."""
+    if not is_below(thing, count_values(view)):
+        raise NoValue()
 
 
 def is_table(view, thing):
@@ -89,3 +101,11 @@ def permitted(view, table):
     """Return how many writes the table permits."""
     need_table(view, table)
     return len([entry for row in table for entry in row if entry is not None])
+
+
+def written(table, state, value):
+    """Return the state to which a write leads, or raise Refused."""
+    result = table[state][value]
+    if result is None:
+        raise Refused()
+    return result
